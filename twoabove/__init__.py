@@ -1,0 +1,1 @@
+"""Two above: shelves filled where least is, and emptied where most is."""

@@ -1,0 +1,86 @@
+"""What the functions of the package ask of the values that they are passed.
+
+This file does not know the class Store: it takes numbers of shelves and lists
+of kinds, so that the file of Store can use it as all others do.
+"""
+
+from twoabove.basics import is_count
+from twoabove.errors import InvalidKind, InvalidLot, InvalidOrder, InvalidPosition, InvalidShelves
+
+FEWEST_SHELVES = 2
+MOST_SHELVES = 8
+MOST_KINDS = 8
+MOST_PIECES = 60
+
+
+def is_list(value):
+    """Whether any value is a list, or the tuple that is accepted in its place."""
+    return isinstance(value, (list, tuple))
+
+
+def is_count_to(value, most):
+    """Whether any value is a COUNT of at most so many."""
+    return is_count(value) and value <= most
+
+
+def is_count_below(value, many):
+    """Whether any value is a COUNT below so many: a shelf, or a position."""
+    return is_count(value) and value < many
+
+
+def is_shelf_number(value):
+    """Whether any value is a number of shelves that a store may have."""
+    return is_count_to(value, MOST_SHELVES) and value >= FEWEST_SHELVES
+
+
+def is_lot_of(shelves, value):
+    """Whether any value is a lot of so many shelves."""
+    if not is_list(value):
+        return False
+    if not all([is_count_below(shelf, shelves) for shelf in value]):
+        return False
+    return len(set(value)) == len(value)
+
+
+def is_kind_of(shelves, value):
+    """Whether any value is a kind of so many shelves."""
+    return is_lot_of(shelves, value) and len(value) > 0
+
+
+def is_kind_list(shelves, value):
+    """Whether any value is a list of as many kinds of these shelves as a store may be told."""
+    if not is_list(value) or len(value) > MOST_KINDS:
+        return False
+    return all([is_kind_of(shelves, kind) for kind in value])
+
+
+def is_board_of(shelves, value):
+    """Whether any value is a board of so many shelves."""
+    if not is_list(value) or len(value) != shelves:
+        return False
+    return all([is_count_to(pieces, MOST_PIECES) for pieces in value])
+
+
+def check_shelf_number(value):
+    if not is_shelf_number(value):
+        raise InvalidShelves(value)
+
+
+def check_lot(shelves, value):
+    if not is_lot_of(shelves, value):
+        raise InvalidLot(value)
+
+
+def check_kind(shelves, value):
+    if not is_kind_of(shelves, value):
+        raise InvalidKind(value)
+
+
+def check_order(shelves, value):
+    if not is_lot_of(shelves, value) or len(value) != shelves:
+        raise InvalidOrder(value)
+
+
+def check_position(kinds, value):
+    if not is_count_below(value, len(kinds)):
+        raise InvalidPosition(value)
