@@ -2,7 +2,7 @@
 
 import copy
 import random
-from itertools import combinations
+from itertools import combinations, product
 
 from twoabove.stores import Store
 
@@ -56,9 +56,22 @@ def wrong_boards(shelves):
     )
 
 
+def wrong_weights(shelves):
+    """No weights of so many shelves."""
+    return NO_LISTS + (
+        [], (), [0] * (shelves - 1), [1] * (shelves + 1), [True] + [0] * (shelves - 1), (0,) * (shelves - 1) + (False,),
+        [None] * shelves, ["0"] * shelves, [[0]] * shelves, "0" * shelves, [b"0"] * shelves, [{}] * shelves,
+    )
+
+
 def wrong_positions(many):
     """No positions among so many kinds."""
     return NO_COUNTS + (many, many + 1, 10 ** 29)
+
+
+def wrong_shelves(shelves, *others):
+    """No shelves of so many, or none but these others."""
+    return wrong_positions(shelves) + others
 
 
 def same(first, second):
@@ -151,6 +164,60 @@ def some_stores(shelves, many, seed):
         sales = dice.sample(kinds, dice.randint(0, min(5, len(kinds))))
         stores.append(Store(shelves, deliveries, sales))
     return stores
+
+
+def all_boards(shelves, most):
+    """All boards of so many shelves that hold at most so many pieces each."""
+    return [list(board) for board in product(range(most + 1), repeat=shelves)]
+
+
+def all_rows(store, most):
+    """All rows of at most so many steps."""
+    steps = [("lay", at) for at in range(len(store.deliveries()))] + [("off", at) for at in range(len(store.sales()))]
+    return [list(row) for many in range(most + 1) for row in product(steps, repeat=many)]
+
+
+def searched(start, behind):
+    """All boards that come of a start, as tuples, if these boards come behind one."""
+    found, waiting = {tuple(start)}, [tuple(start)]
+    while waiting:
+        for board in behind(waiting.pop()):
+            if tuple(board) not in found:
+                found.add(tuple(board))
+                waiting.append(tuple(board))
+    return found
+
+
+def changed_at(board, shelf, pieces):
+    """The board with so many pieces more on the shelf."""
+    return tuple(held + pieces if one == shelf else held for one, held in enumerate(board))
+
+
+def second_puts(store, board, most):
+    """The boards behind a delivery of whatever kind, none higher than that."""
+    return [changed_at(board, shelf, 1) for kind in store.deliveries() for shelf in kind
+            if board[shelf] < most and all(board[shelf] <= board[one] for one in kind)]
+
+
+def second_takes(store, board):
+    """The boards behind a sale of whatever kind that takes a piece."""
+    return [changed_at(board, shelf, -1) for kind in store.sales() for shelf in kind
+            if board[shelf] and all(board[shelf] >= board[one] for one in kind)]
+
+
+def come_from(store, board, most):
+    """All boards that come from the board by deliveries alone, none higher than that."""
+    return searched(board, lambda one: second_puts(store, one, most))
+
+
+def go_from(store, board):
+    """All boards that the board goes to by sales alone."""
+    return searched(board, lambda one: second_takes(store, one))
+
+
+def behind_all(store, most):
+    """All boards behind histories from the empty board on which no board is higher than that."""
+    return searched([0] * store.shelves, lambda one: second_puts(store, one, most) + second_takes(store, one))
 
 
 def second_row_lot(store, row):

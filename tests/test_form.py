@@ -23,6 +23,14 @@ INTERFACE = {
     "deeds": "put_shelves(store,board,position) take_shelves(store,board,position) done(store,board,deed) "
              "played(store,board,history) boards(store,board,history) first_barred(store,board,history)",
     "histories": "blown(store,row,height)",
+    "sandwiches": "is_sandwich(store,board,value) board_sandwich(store,board) sandwich(store,history)",
+    "aboves": "never_two_above(store,shelf,other) never_table(store) above_row(store,shelf,other) "
+              "is_above_row(store,shelf,other,value) blame(store,shelf,other) level_groups(store)",
+    "weights": "lot_weight(store,weights,lot) stays_below(store,weights) closed_paper(store,weights) "
+               "is_closed_paper(store,weights,value) rising_row(store,weights) is_rising_row(store,weights,value) "
+               "bound(store,weights) never_more(store,lot,other)",
+    "looks": "comes(store,board,wished) givers(store,board,wished) are_givers(store,board,wished,value) "
+             "bar(store,board,wished) is_bar(store,board,wished,value) way(store,board,wished)",
 }
 METHODS = {"Store": {"__init__", "shelves", "deliveries", "sales", "__eq__"}}
 STATEMENTS = (

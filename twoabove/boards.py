@@ -1,7 +1,7 @@
 """Boards: how many pieces each shelf holds, level by level, and least and most."""
 
 from twoabove.basics import is_count
-from twoabove.checks import MOST_PIECES, check_kind, is_board_of, is_list, is_lot_of
+from twoabove.checks import MOST_PIECES, check_kind, is_board_of, is_lot_list
 from twoabove.errors import InvalidBoard, InvalidLevel, InvalidLots
 from twoabove.lots import is_within
 from twoabove.stores import check_store
@@ -72,8 +72,6 @@ def most_of(store, board, kind):
 
 def _are_falling(shelves, value):
     # No more lots than a board has levels, each within the one ahead.
-    if not is_list(value) or len(value) > MOST_PIECES:
-        return False
-    if not all([is_lot_of(shelves, lot) for lot in value]):
+    if not is_lot_list(shelves, value) or len(value) > MOST_PIECES:
         return False
     return all([is_within(shelves, lot, ahead) for ahead, lot in zip(value, value[1:])])

@@ -4,8 +4,9 @@ This file does not know the class Store: it takes numbers of shelves and lists
 of kinds, so that the file of Store can use it as all others do.
 """
 
-from twoabove.basics import is_count
-from twoabove.errors import InvalidKind, InvalidLot, InvalidOrder, InvalidPosition, InvalidShelves
+from twoabove.basics import is_count, is_integer
+from twoabove.errors import InvalidKind, InvalidLot, InvalidOrder, InvalidPosition
+from twoabove.errors import InvalidShelf, InvalidShelves, InvalidWeights, InvalidWished
 
 FEWEST_SHELVES = 2
 MOST_SHELVES = 8
@@ -42,6 +43,11 @@ def is_lot_of(shelves, value):
     return len(set(value)) == len(value)
 
 
+def is_lot_list(shelves, value):
+    """Whether any value is a list of lots of so many shelves."""
+    return is_list(value) and all([is_lot_of(shelves, lot) for lot in value])
+
+
 def is_kind_of(shelves, value):
     """Whether any value is a kind of so many shelves."""
     return is_lot_of(shelves, value) and len(value) > 0
@@ -59,6 +65,13 @@ def is_board_of(shelves, value):
     if not is_list(value) or len(value) != shelves:
         return False
     return all([is_count_to(pieces, MOST_PIECES) for pieces in value])
+
+
+def is_weights_of(shelves, value):
+    """Whether any value is a list of an INTEGER for each of so many shelves."""
+    if not is_list(value) or len(value) != shelves:
+        return False
+    return all([is_integer(weight) for weight in value])
 
 
 def check_shelf_number(value):
@@ -84,3 +97,26 @@ def check_order(shelves, value):
 def check_position(kinds, value):
     if not is_count_below(value, len(kinds)):
         raise InvalidPosition(value)
+
+
+def check_shelf(shelves, value):
+    if not is_count_below(value, shelves):
+        raise InvalidShelf(value)
+
+
+def check_pair(shelves, shelf, other):
+    """Both are shelves, and the other one is another one."""
+    check_shelf(shelves, shelf)
+    check_shelf(shelves, other)
+    if other == shelf:
+        raise InvalidShelf(other)
+
+
+def check_weights(shelves, value):
+    if not is_weights_of(shelves, value):
+        raise InvalidWeights(value)
+
+
+def check_wished(shelves, value):
+    if not is_board_of(shelves, value):
+        raise InvalidWished(value)

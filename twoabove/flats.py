@@ -1,6 +1,6 @@
 """Flat lots, closed families, and lots that part two stores."""
 
-from twoabove.checks import is_list, is_lot_of
+from twoabove.checks import is_lot_list
 from twoabove.errors import InvalidLots
 from twoabove.rows import all_steps, flat_row, step_lot
 from twoabove.stores import check_store, check_stores
@@ -21,7 +21,7 @@ def is_flat(store, lot):
 def closure(store, lots):
     """The sorted list of the lots of the least closed family that has these lots."""
     check_store(store)
-    if not _are_lots(store, lots) or len(lots) > MOST_LOTS:
+    if not is_lot_list(store.shelves, lots) or len(lots) > MOST_LOTS:
         raise InvalidLots(lots)
     waiting = [[]] + [sorted(lot) for lot in lots]
     family = {}
@@ -36,7 +36,7 @@ def closure(store, lots):
 def is_closed(store, value):
     """Whether any value is a closed family of the store, in any sequence."""
     check_store(store)
-    if not _are_lots(store, value):
+    if not is_lot_list(store.shelves, value):
         return False
     family = {tuple(sorted(lot)): True for lot in value}
     if () not in family:
@@ -53,10 +53,6 @@ def flat_parting(store, other):
         if lot not in lots or lot not in others:
             return lot
     return None
-
-
-def _are_lots(store, value):
-    return is_list(value) and all([is_lot_of(store.shelves, lot) for lot in value])
 
 
 def _next_lots(store, lot):

@@ -21,7 +21,7 @@ def is_flat_row(store, lot, value):
     """Whether any value is a row of the store that ends with the lot."""
     check_store(store)
     check_lot(store.shelves, lot)
-    return _is_row(store, value) and row_lot(store, value) == sorted(lot)
+    return is_row(store, value) and row_lot(store, value) == sorted(lot)
 
 
 def flat_row(store, lot):
@@ -40,10 +40,17 @@ def flat_row(store, lot):
     return taken[::-1]
 
 
+def is_row(store, value):
+    """Whether any value is a row of the store; whether this is a Store is asked ahead of it."""
+    if not is_list(value) or len(value) > MOST_STEPS:
+        return False
+    return all([_is_step(store, step) for step in value])
+
+
 def check_row(store, row):
     """The store is a Store, and the row one of it."""
     check_store(store)
-    if not _is_row(store, row):
+    if not is_row(store, row):
         raise InvalidRow(row)
 
 
@@ -66,12 +73,6 @@ def step_lot(store, lot, step):
     if step[0] == "lay":
         return joined(store.shelves, lot, step_kind(store, step))
     return without(store.shelves, lot, step_kind(store, step))
-
-
-def _is_row(store, value):
-    if not is_list(value) or len(value) > MOST_STEPS:
-        return False
-    return all([_is_step(store, step) for step in value])
 
 
 def _is_step(store, value):
