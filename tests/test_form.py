@@ -31,6 +31,16 @@ INTERFACE = {
                "bound(store,weights) never_more(store,lot,other)",
     "looks": "comes(store,board,wished) givers(store,board,wished) are_givers(store,board,wished,value) "
              "bar(store,board,wished) is_bar(store,board,wished,value) way(store,board,wished)",
+    "sellings": "goes(store,board,wished) takers(store,board,wished) are_takers(store,board,wished,value) "
+                "stop(store,board,wished) is_stop(store,board,wished,value) way_down(store,board,wished)",
+    "ties": "put_by(store,order,board,position) comes_by(store,order,board,wished) "
+            "givers_by(store,order,board,wished) are_givers_by(store,order,board,wished,value) "
+            "way_by(store,order,board,wished) never_above(store,order,shelf,other) "
+            "above_lot(store,order,shelf,other) is_above_lot(store,order,shelf,other,value)",
+    "levels": "supported(store,lot) can_come(store,board) how_many(store,total) boards_with(store,total) "
+              "numbered(store,total,number) number_of(store,board)",
+    "sums": "greatest(store,weights) greatest_board(store,weights)",
+    "leans": "lean(store) needless(store) lets_all(store,other) parting(store,other) is_parting(store,other,value)",
 }
 METHODS = {"Store": {"__init__", "shelves", "deliveries", "sales", "__eq__"}}
 STATEMENTS = (

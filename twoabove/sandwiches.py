@@ -1,8 +1,8 @@
 """Sandwiches: for each level of a board a flat lot between those who stand there and those one above."""
 
-from twoabove.boards import check_board, falling_lots
+from twoabove.boards import falling_lots
 from twoabove.checks import is_lot_list
-from twoabove.deeds import check_history, played
+from twoabove.deeds import played
 from twoabove.flats import flat_lots
 from twoabove.lots import is_within
 from twoabove.stores import check_store
@@ -27,13 +27,11 @@ def board_sandwich(store, board):
 def sandwich(store, history):
     """A sandwich of the board behind a history from the empty board."""
     check_store(store)
-    check_history(store, history)
     return board_sandwich(store, played(store, [0] * store.shelves, history))
 
 
 def _choices(store, board):
     # For each level from 0 to the height less 1 the flat lots that a sandwich may have there.
-    check_board(store, board)
     highers = falling_lots(store, board)
     lowers = [list(range(store.shelves))] + highers
     flats = flat_lots(store)
