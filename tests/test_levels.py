@@ -67,9 +67,10 @@ class ComeTest(unittest.TestCase):
                 self.assertIs(can_come(store, board), second_can_come(store, board))
 
     def test_wrong_parameters(self):
-        check_parameters(
-            self, supported, ("store", SHOP, InvalidStore, NO_STORES), ("lot", (1, 0), InvalidLot, wrong_lots(3)),
-        )
+        for store in (SHOP, Store(3, [], [])):
+            check_parameters(
+                self, supported, ("store", store, InvalidStore, NO_STORES), ("lot", (1, 0), InvalidLot, wrong_lots(3)),
+            )
         check_parameters(
             self, can_come,
             ("store", SHOP, InvalidStore, NO_STORES), ("board", (60, 60, 60), InvalidBoard, wrong_boards(3)),

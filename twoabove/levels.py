@@ -40,7 +40,6 @@ def boards_with(store, total):
 
 def numbered(store, total, number):
     """The board with the number among those of the total that can come."""
-    _check_total(store, total)
     if not is_count_below(number, how_many(store, total)):
         raise InvalidNumber(number)
     board = []

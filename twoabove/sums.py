@@ -1,6 +1,5 @@
 """The greatest weighted sum of the boards that can come by deliveries alone."""
 
-from twoabove.checks import check_weights
 from twoabove.stores import Store, check_store, named
 from twoabove.weights import stays_below
 
@@ -16,7 +15,6 @@ def greatest(store, weights):
 def greatest_board(store, weights):
     """A board that can come with the greatest weighted sum; None if there is none."""
     check_store(store)
-    check_weights(store.shelves, weights)
     # Without sales the flat lots are the joins of delivery kinds.
     if not stays_below(Store(store.shelves, store.deliveries(), []), weights):
         return None

@@ -1,6 +1,5 @@
 """Deliveries alone by a written order, which tells where the piece goes if several shelves hold least."""
 
-from twoabove.boards import check_board
 from twoabove.checks import check_order, check_pair, is_lot_of
 from twoabove.deeds import done, put_shelves
 from twoabove.looks import are_pairs, check_two_boards, first_pairs, giver_table, piece_by_piece
@@ -10,7 +9,6 @@ from twoabove.stores import check_store
 def put_by(store, order, board, position):
     """The board behind a delivery of the kind by the order."""
     _check_ordered(store, order)
-    check_board(store, board)
     lot = put_shelves(store, board, position)
     earliest = [shelf for shelf in order if shelf in lot][0]
     return done(store, board, ("put", position, earliest))
