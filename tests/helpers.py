@@ -64,6 +64,19 @@ def wrong_weights(shelves):
     )
 
 
+def wrong_counts(kinds):
+    """No counts of so many delivery kinds."""
+    whole = [1] * kinds
+    wrongs = NO_LISTS + (
+        whole + [0], whole + [1, 1], [None] * (kinds + 1), [0] * 9, {at: 0 for at in range(kinds)}, "1" * kinds,
+    )
+    if kinds:
+        firsts = (21, -1, True, False, None, "1", [1], (1,), {}, 10 ** 29, Store(2, [], []))
+        wrongs += tuple([first] + whole[1:] for first in firsts) + tuple(whole[1:] + [first] for first in firsts)
+        wrongs += ([], (), whole[1:], [whole])
+    return wrongs
+
+
 def wrong_positions(many):
     """No positions among so many kinds."""
     return NO_COUNTS + (many, many + 1, 10 ** 29)
@@ -218,6 +231,22 @@ def go_from(store, board):
 def behind_all(store, most):
     """All boards behind histories from the empty board on which no board is higher than that."""
     return searched([0] * store.shelves, lambda one: second_puts(store, one, most) + second_takes(store, one))
+
+
+def second_ends(store, board, counts):
+    """All boards that come of just these deliveries, in all orders and by all choices, sorted."""
+    kinds = store.deliveries()
+
+    def behind(state):
+        board, counts = state[:store.shelves], state[store.shelves:]
+        return [
+            changed_at(board, shelf, 1) + changed_at(counts, position, -1)
+            for position, kind in enumerate(kinds) if counts[position]
+            for shelf in kind if all(board[shelf] <= board[one] for one in kind)
+        ]
+
+    states = searched(tuple(board) + tuple(counts), behind)
+    return sorted(list(state[:store.shelves]) for state in states if not any(state[store.shelves:]))
 
 
 def second_row_lot(store, row):

@@ -40,6 +40,17 @@ INTERFACE = {
     "levels": "supported(store,lot) can_come(store,board) how_many(store,total) boards_with(store,total) "
               "numbered(store,total,number) number_of(store,board)",
     "sums": "greatest(store,weights) greatest_board(store,weights)",
+    "tolds": "places(store,board,wished,position) can_end(store,board,counts,wished) "
+             "dealing(store,board,counts,wished) is_dealing(store,board,counts,wished,value) "
+             "crowd(store,board,counts,wished) is_crowd(store,board,counts,wished,value) "
+             "told_way(store,board,counts,wished)",
+    "ends": "row_ends(store,board,positions) all_ends(store,board,counts) span(store,board,counts,shelf) "
+            "is_one_end(store,board,counts) two_histories(store,board,counts)",
+    "fullest": "most_shelves(store,board,position) comes_fullest(store,wished) peeling(store,wished) "
+               "is_peeling(store,wished,value) stuck(store,wished) is_stuck(store,wished,value) "
+               "fullest_way(store,wished)",
+    "changes": "changed(store,changes) fewest_changes(store,shelf,other) mending(store,shelf,other) "
+               "is_mending(store,shelf,other,value) lost_pairs(store,kind) lost_by_sale(store,kind)",
     "leans": "lean(store) needless(store) lets_all(store,other) parting(store,other) is_parting(store,other,value)",
 }
 METHODS = {"Store": {"__init__", "shelves", "deliveries", "sales", "__eq__"}}

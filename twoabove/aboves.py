@@ -2,7 +2,7 @@
 
 from twoabove.checks import check_pair
 from twoabove.rows import is_row, row_lot
-from twoabove.stores import check_store, named
+from twoabove.stores import check_store
 
 
 def never_two_above(store, shelf, other):
@@ -31,7 +31,7 @@ def above_row(store, shelf, other):
 
 def is_above_row(store, shelf, other, value):
     """Whether any value is a row that ends with a lot with the shelf, without the other one."""
-    _check_two(store, shelf, other)
+    check_two(store, shelf, other)
     if not is_row(store, value):
         return False
     lot = row_lot(store, value)
@@ -40,10 +40,15 @@ def is_above_row(store, shelf, other, value):
 
 def blame(store, shelf, other):
     """The positions of the delivery kinds, and of the sale kinds, that let the shelf stand two above the other one."""
-    _check_two(store, shelf, other)
-    if shelf not in named(store):
+    check_two(store, shelf, other)
+    return blamed(store.deliveries(), store.sales(), shelf, other)
+
+
+def blamed(deliveries, sales, shelf, other):
+    """The positions of the kinds to blame, of any number of kinds."""
+    if not any([shelf in kind for kind in deliveries]):
         return [], []
-    return _with_and_without(store.deliveries(), shelf, other), _with_and_without(store.sales(), other, shelf)
+    return _with_and_without(deliveries, shelf, other), _with_and_without(sales, other, shelf)
 
 
 def level_groups(store):
@@ -54,7 +59,8 @@ def level_groups(store):
     return [list(group) for group in sorted({tuple(group) for group in groups})]
 
 
-def _check_two(store, shelf, other):
+def check_two(store, shelf, other):
+    """The store is a Store, and both are shelves of it, unlike ones."""
     check_store(store)
     check_pair(store.shelves, shelf, other)
 

@@ -5,13 +5,14 @@ of kinds, so that the file of Store can use it as all others do.
 """
 
 from twoabove.basics import is_count, is_integer
-from twoabove.errors import InvalidKind, InvalidLot, InvalidOrder, InvalidPosition
+from twoabove.errors import InvalidCounts, InvalidKind, InvalidLot, InvalidOrder, InvalidPosition
 from twoabove.errors import InvalidShelf, InvalidShelves, InvalidWeights, InvalidWished
 
 FEWEST_SHELVES = 2
 MOST_SHELVES = 8
 MOST_KINDS = 8
 MOST_PIECES = 60
+MOST_COUNT = 20
 
 
 def is_list(value):
@@ -74,6 +75,18 @@ def is_weights_of(shelves, value):
     return all([is_integer(weight) for weight in value])
 
 
+def is_counts_of(kinds, value):
+    """Whether any value is a list of a COUNT of deliveries for each of the kinds."""
+    if not is_list(value) or len(value) != len(kinds):
+        return False
+    return all([is_count_to(count, MOST_COUNT) for count in value])
+
+
+def is_nowhere_below(board, value):
+    """Whether any value is a board of as many shelves that holds on each at least what the board does."""
+    return is_board_of(len(board), value) and all([more >= pieces for more, pieces in zip(value, board)])
+
+
 def check_shelf_number(value):
     if not is_shelf_number(value):
         raise InvalidShelves(value)
@@ -120,3 +133,8 @@ def check_weights(shelves, value):
 def check_wished(shelves, value):
     if not is_board_of(shelves, value):
         raise InvalidWished(value)
+
+
+def check_counts(kinds, value):
+    if not is_counts_of(kinds, value):
+        raise InvalidCounts(value)

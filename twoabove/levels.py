@@ -4,7 +4,7 @@ from twoabove.boards import board_of, check_board
 from twoabove.checks import check_lot, is_board_of, is_count_below, is_count_to
 from twoabove.errors import InvalidBoard, InvalidNumber, InvalidTotal, NotCome, TooMany
 from twoabove.looks import comes
-from twoabove.lots import is_within
+from twoabove.lots import is_within, parts
 from twoabove.stores import check_store
 
 MOST_TOTAL = 20
@@ -107,15 +107,7 @@ def _next_lots(store, lot, musts, mays):
     carried = supported(store, list(lot))
     if not is_within(store.shelves, musts, carried):
         return []
-    return [tuple(sorted(musts + part)) for part in _parts([shelf for shelf in carried if shelf in mays])]
-
-
-def _parts(lot):
-    # All lots within the lot.
-    parts = [[]]
-    for shelf in lot:
-        parts = parts + [part + [shelf] for part in parts]
-    return parts
+    return [tuple(sorted(musts + part)) for part in parts([shelf for shelf in carried if shelf in mays])]
 
 
 def _falling_rows(store, lot, left):
@@ -123,7 +115,7 @@ def _falling_rows(store, lot, left):
     if left == 0:
         return [[]]
     rows = []
-    for higher in _parts(supported(store, lot)):
+    for higher in parts(supported(store, lot)):
         if 0 < len(higher) <= left:
             rows.extend([[higher] + above for above in _falling_rows(store, higher, left - len(higher))])
     return rows

@@ -33,6 +33,14 @@ def is_within(shelves, lot, other):
     return all([shelf in other for shelf in lot])
 
 
+def parts(lot):
+    """All lots within the lot; where the lot is rising, they are, too."""
+    found = [[]]
+    for shelf in lot:
+        found = found + [part + [shelf] for part in found]
+    return found
+
+
 def _check_lots(shelves, lot, other):
     check_shelf_number(shelves)
     check_lot(shelves, lot)
