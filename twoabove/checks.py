@@ -75,9 +75,19 @@ def is_weights_of(shelves, value):
     return all([is_integer(weight) for weight in value])
 
 
-def is_counts_of(kinds, value):
-    """Whether any value is a list of a COUNT of deliveries for each of the kinds."""
-    if not is_list(value) or len(value) != len(kinds):
+def is_order_of(shelves, value):
+    """Whether any value is a list of all of so many shelves, each once."""
+    return is_lot_of(shelves, value) and len(value) == shelves
+
+
+def is_pair_of(shelves, value):
+    """Whether any value is a list of two unlike shelves of so many."""
+    return is_lot_of(shelves, value) and len(value) == 2
+
+
+def is_counts_of(many, value):
+    """Whether any value is a list of a COUNT of deliveries for each of so many delivery kinds."""
+    if not is_list(value) or len(value) != many:
         return False
     return all([is_count_to(count, MOST_COUNT) for count in value])
 
@@ -85,6 +95,11 @@ def is_counts_of(kinds, value):
 def is_nowhere_below(board, value):
     """Whether any value is a board of as many shelves that holds on each at least what the board does."""
     return is_board_of(len(board), value) and all([more >= pieces for more, pieces in zip(value, board)])
+
+
+def is_wished_of(board, counts, value):
+    """Whether any value is a board to which so many deliveries could lead from the board, by its numbers alone."""
+    return is_nowhere_below(board, value) and sum(value) == sum(board) + sum(counts)
 
 
 def check_shelf_number(value):
@@ -103,7 +118,7 @@ def check_kind(shelves, value):
 
 
 def check_order(shelves, value):
-    if not is_lot_of(shelves, value) or len(value) != shelves:
+    if not is_order_of(shelves, value):
         raise InvalidOrder(value)
 
 
@@ -136,5 +151,5 @@ def check_wished(shelves, value):
 
 
 def check_counts(kinds, value):
-    if not is_counts_of(kinds, value):
+    if not is_counts_of(len(kinds), value):
         raise InvalidCounts(value)

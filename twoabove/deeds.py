@@ -60,11 +60,16 @@ def first_barred(store, board, history):
     return None
 
 
+def is_history(store, value):
+    """Whether any value is a history of the store; whether this is a Store is asked ahead of it."""
+    if not is_list(value) or len(value) > MOST_DEEDS:
+        return False
+    return all([_is_deed(store, deed) for deed in value])
+
+
 def check_history(store, history):
     """The history is one of the store; whether it is a Store is asked ahead of it."""
-    if not is_list(history) or len(history) > MOST_DEEDS:
-        raise InvalidHistory(history)
-    if not all([_is_deed(store, deed) for deed in history]):
+    if not is_history(store, history):
         raise InvalidHistory(history)
 
 

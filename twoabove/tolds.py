@@ -2,7 +2,7 @@
 
 from twoabove.basics import is_count
 from twoabove.boards import check_board
-from twoabove.checks import check_counts, check_position, is_list, is_lot_of, is_nowhere_below
+from twoabove.checks import check_counts, check_position, is_list, is_lot_of, is_nowhere_below, is_wished_of
 from twoabove.errors import InvalidWished
 
 
@@ -91,7 +91,7 @@ def deal(table, counts):
 def _check_told(store, board, counts, wished):
     check_board(store, board)
     check_counts(store.deliveries(), counts)
-    if not is_nowhere_below(board, wished) or sum(wished) != sum(board) + sum(counts):
+    if not is_wished_of(board, counts, wished):
         raise InvalidWished(wished)
 
 
