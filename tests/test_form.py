@@ -51,13 +51,39 @@ INTERFACE = {
                "fullest_way(store,wished)",
     "changes": "changed(store,changes) fewest_changes(store,shelf,other) mending(store,shelf,other) "
                "is_mending(store,shelf,other,value) lost_pairs(store,kind) lost_by_sale(store,kind)",
+    "texts": "store_text(store) board_text(store,board) lot_text(store,lot) weights_text(store,weights) "
+             "counts_text(store,counts) order_text(store,order) history_text(store,history)",
+    "readers": "read_store(text) read_board(store,text) read_lot(store,text) read_weights(store,text) "
+               "read_counts(store,text) read_order(store,text) read_history(store,text)",
+    "claims": "words() is_claim(value) is_true(claim) contrary(claim) paper_of(claim) is_paper_of(claim,value)",
+    "commands": "is_name(value) is_command(value) is_desk_deed(value)",
+    "desk": "Desk(self) Trial(self,desk) tried(desk,action)",
     "leans": "lean(store) needless(store) lets_all(store,other) parting(store,other) is_parting(store,other,value)",
 }
-METHODS = {"Store": {"__init__", "shelves", "deliveries", "sales", "__eq__"}}
+METHODS = {
+    "Store": {"__init__", "shelves", "deliveries", "sales", "__eq__"},
+    "Desk": set(
+        "__init__ names labels __len__ __getitem__ __contains__ claim_of do __call__ do_all attempt attach fits lines copy "
+        "again".split()
+    ),
+    "Trial": {"__init__", "__enter__", "__exit__"},
+}
+SIGNATURES = {
+    "Desk": "claim_of(self,label) do(self,command) __call__(self,command) do_all(self,*commands) "
+            "attempt(self,*commands) attach(self,label,paper) fits(self,label) lines(self) copy(self) again(cls,lines)",
+    "Store": "deliveries(self) sales(self)",
+}
 STATEMENTS = (
     ast.Module, ast.Import, ast.ImportFrom, ast.FunctionDef, ast.ClassDef, ast.Assign, ast.AugAssign, ast.If, ast.While,
     ast.For, ast.Return, ast.Break, ast.Continue, ast.Pass, ast.Raise, ast.Assert, ast.Delete, ast.Try, ast.Expr,
-    ast.With,
+    ast.With, ast.Match,
+)
+DUNDERS = set(
+    "__init__ __eq__ __repr__ __str__ __len__ __enter__ __exit__ __call__ __iter__ __contains__ __getitem__".split()
+)
+CALLED = set(
+    "append clear copy count endswith extend find get index insert isdigit items join keys partition pop remove replace "
+    "reverse setdefault split startswith strip update values".split()
 )
 BUILTINS = set(
     "len range enumerate zip min max sum abs sorted reversed int str bool bytes list tuple dict set isinstance ord repr "
@@ -174,7 +200,7 @@ class CodeTest(unittest.TestCase):
         for path in FILES:
             tree = tree_of(path)
             for name in bound_names(tree):
-                if name not in ("__init__", "__eq__"):
+                if name not in DUNDERS:
                     self.assertFalse(hasattr(builtins, name), (path, name))
                     self.assertNotIn(name, BARRED_NAMES, path)
                     self.assertRegex(name, r"\A(_|_?[A-Za-z][A-Za-z0-9_]*)\Z")
@@ -204,6 +230,58 @@ class CodeTest(unittest.TestCase):
                     words += re.findall(r"\w+", node.value)
             self.assertFalse(set(words) & BARRED_WORDS, path)
 
+    def test_module_level(self):
+        for path in FILES:
+            for node in tree_of(path).body:
+                self.assertIsInstance(node, (ast.Expr, ast.ImportFrom, ast.FunctionDef, ast.ClassDef, ast.Assign), path)
+                if isinstance(node, ast.Assign):
+                    inner = [part for part in ast.walk(node.value) if part is not node.value]
+                    self.assertFalse([part for part in inner if isinstance(part, (ast.List, ast.Dict, ast.Set))], path)
+                    self.assertFalse([part for part in ast.walk(node.value) if isinstance(part, ast.Call)], path)
+
+    def test_calls(self):
+        own = {node.name for path in FILES for node in ast.walk(tree_of(path)) if isinstance(node, ast.FunctionDef)}
+        for path in FILES:
+            for node in ast.walk(tree_of(path)):
+                if not isinstance(node, ast.Call):
+                    continue
+                self.assertEqual(node.keywords, [], path)
+                for told in node.args:
+                    if isinstance(told, ast.Starred):
+                        self.assertIsInstance(told.value, ast.Name, path)
+                if isinstance(node.func, ast.Attribute):
+                    self.assertIn(node.func.attr, own | CALLED, path)
+                else:
+                    self.assertIsInstance(node.func, ast.Name, path)
+
+    def test_no_lambda_no_nested_function_no_decorated_class(self):
+        for path in FILES:
+            for node in ast.walk(tree_of(path)):
+                self.assertNotIsInstance(node, (ast.Lambda, ast.Set, ast.NamedExpr, ast.Global, ast.Nonlocal), path)
+                if isinstance(node, ast.FunctionDef):
+                    inner = [part for part in ast.walk(node) if isinstance(part, ast.FunctionDef) and part is not node]
+                    self.assertEqual(inner, [], path)
+                if isinstance(node, ast.ClassDef):
+                    self.assertEqual(node.decorator_list, [], path)
+                if isinstance(node, ast.JoinedStr):
+                    texts = [part for told in node.values if isinstance(told, ast.FormattedValue) for part in
+                             ast.walk(told.value) if isinstance(part, ast.Constant) and isinstance(part.value, str)]
+                    self.assertEqual(texts, [], path)
+
+    def test_sets_are_used_on_the_spot(self):
+        # A set stands in sorted or len, or beside another set that does.
+        for path in FILES:
+            tree = tree_of(path)
+            above = {inner: node for node in ast.walk(tree) for inner in ast.iter_child_nodes(node)}
+            for node in ast.walk(tree):
+                called = isinstance(node, ast.Call) and isinstance(node.func, ast.Name) and node.func.id == "set"
+                if called or isinstance(node, ast.SetComp):
+                    holder = above[node]
+                    while isinstance(holder, ast.BinOp):
+                        holder = above[holder]
+                    self.assertIsInstance(holder, ast.Call, path)
+                    self.assertIn(holder.func.id, ("sorted", "len"), path)
+
     def test_judges_take_lists(self):
         # Store has an __eq__, so that sorted, any, all and their kin take no generator.
         for path in FILES:
@@ -212,21 +290,29 @@ class CodeTest(unittest.TestCase):
                     self.assertIsInstance(node.args[0], (ast.ListComp, ast.Name), path)
 
 
+def names_of(function):
+    """The names of a function's parameters."""
+    told = [arg.arg for arg in function.args.args]
+    return told + ([f"*{function.args.vararg.arg}"] if function.args.vararg else [])
+
+
 class InterfaceTest(unittest.TestCase):
     def test_defined_where_it_is_listed(self):
         for stem, listed in INTERFACE.items():
-            tree = tree_of(PACKAGE / f"{stem}.py")
             defined = {}
-            for node in tree.body:
+            for node in tree_of(PACKAGE / f"{stem}.py").body:
                 if isinstance(node, ast.ClassDef):
-                    inner = {part.name: part for part in node.body if isinstance(part, ast.FunctionDef)}
-                    self.assertLessEqual(METHODS[node.name], set(inner))
-                    defined[node.name] = [arg.arg for arg in inner["__init__"].args.args]
+                    inner = {part.name: names_of(part) for part in node.body if isinstance(part, ast.FunctionDef)}
+                    defined[node.name] = inner["__init__"]
+                    self.assertLessEqual(METHODS.get(node.name, set()), set(inner))
+                    for told in SIGNATURES.get(node.name, "").split():
+                        name, _, names = told.rstrip(")").partition("(")
+                        self.assertEqual(inner[name], names.split(","), (stem, name))
                 elif isinstance(node, ast.FunctionDef):
-                    defined[node.name] = [arg.arg for arg in node.args.args]
+                    defined[node.name] = names_of(node)
             for told in listed.split():
                 name, _, names = told.rstrip(")").partition("(")
-                self.assertEqual(defined.get(name), names.split(","), (stem, name))
+                self.assertEqual(defined.get(name), [one for one in names.split(",") if one], (stem, name))
 
 
 if __name__ == "__main__":
