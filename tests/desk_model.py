@@ -76,7 +76,8 @@ def written(value):
     """What is kept, written."""
     if not isinstance(value, Store):
         return ", ".join(map(str, value)) or "-"
-    kinds = ["; ".join(",".join(map(str, kind)) for kind in told) or "-" for told in (value.deliveries(), value.sales())]
+    sorts = (value.deliveries(), value.sales())
+    kinds = ["; ".join(",".join(map(str, kind)) for kind in told) or "-" for told in sorts]
     return f"{value.shelves}: {kinds[0]} / {kinds[1]}"
 
 

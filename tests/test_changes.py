@@ -119,10 +119,13 @@ class ChangedTest(unittest.TestCase):
             [good, good], [("in", "delivery", 0, 0)], [("out", "delivery", 0, 2)], [("in", "delivery", 2, 2)],
             [("in", "delivery", -1, 2)], [("in", "delivery", 0, 3)], [("in", "delivery", 0, -1)], [list(good)], good,
             [("in", "delivery", False, 2)], [("in", "delivery", 0, "2")], [("in", "delivery", True, 0)],
-            [("in", "sale", 0, True)], [("put", "delivery", 0, 2)], [("in", "deliveries", 0, 2)], [("in", "sale", 1, 0)],
-            [(b"in", "delivery", 0, 2)], [("in", b"delivery", 0, 2)], [("In", "delivery", 0, 2)], [("in", "delivery", 0)],
+            [("in", "sale", 0, True)], [("put", "delivery", 0, 2)], [("in", "deliveries", 0, 2)],
+            [("in", "sale", 1, 0)],
+            [(b"in", "delivery", 0, 2)], [("in", b"delivery", 0, 2)], [("In", "delivery", 0, 2)],
+            [("in", "delivery", 0)],
             [good + (0,)], [()], [("", "delivery", 0, 2)], [("in", "", 0, 2)], [(["in"], "delivery", 0, 2)],
-            [("in", ["delivery"], 0, 2)], [("in", "delivery", [0], 2)], [("in", "delivery", 0, [2])], [None], [[]], {good: 1},
+            [("in", ["delivery"], 0, 2)], [("in", "delivery", [0], 2)], [("in", "delivery", 0, [2])], [None], [[]],
+            {good: 1},
             [("in", "delivery", None, 2)], [("in", "delivery", 0, None)], [({}, "delivery", 0, 2)],
             [("in", {}, 0, 2)], [("delivery", "in", 0, 2)], [("in", "delivery", 10 ** 29, 2)], {good}, "in",
         ]
@@ -231,7 +234,8 @@ class LostTest(unittest.TestCase):
         for store in some_stores(4, 30, 158):
             for kind in all_kinds(4)[::3]:
                 for more in (
-                    Store(4, store.deliveries() + [kind], store.sales()), Store(4, store.deliveries(), store.sales() + [kind]),
+                    Store(4, store.deliveries() + [kind], store.sales()),
+                    Store(4, store.deliveries(), store.sales() + [kind]),
                 ):
                     for shelf, other in product(range(4), repeat=2):
                         if second_never(more, shelf, other):

@@ -124,7 +124,8 @@ class ClaimTest(unittest.TestCase):
                 yield (word, good)
                 yield good
                 yield (word,)
-            for other in ("", "Never", first + " ", "nothing", b"never", None, True, 0, [first], (first,), {}, SHOP, len):
+            for other in ("", "Never", first + " ", "nothing", b"never", None, True, 0, [first], (first,), {}, SHOP,
+                          len):
                 yield (other,) + good
         for first, second in product(PARTS, repeat=2):
             # A board is a list of weights, too.
@@ -246,7 +247,8 @@ class PaperTest(unittest.TestCase):
             self.assertIs(is_paper_of(("lets", SHOP, SHOP), value), False)
 
     def test_told_is_new(self):
-        for claim in (("below", SHOP, [1, -2, 1]), ("ends", SHOP, [0, 0, 0], [2, 1], [2, 1, 0]), ("stuck", SHOP, [1, 1, 1])):
+        for claim in (("below", SHOP, [1, -2, 1]), ("ends", SHOP, [0, 0, 0], [2, 1], [2, 1, 0]),
+                      ("stuck", SHOP, [1, 1, 1])):
             kept = paper_of(claim)
             told = paper_of(claim)
             if kept:

@@ -29,9 +29,12 @@ TEXTS = {
     "ORDER": ["0", "2,0,1"], "LOT": ["-", "0", "2,2"], "HISTORY": ["-", "put0>1", "miss0,take3>4", "put99>7"],
 }
 NO_TEXTS = {
-    "STORE": ["", "3", "3:", "3:0,1", "3:0,1/", "3:0;/-", "03:0/-", "3:0/-x", "3:0,-/-"], "BOARD": ["", "-", "-1", "0,", "00"],
-    "WEIGHTS": ["", "-", "-0", "1,", "--1", "1234567"], "COUNTS": ["", "-1", "-,0", "0-"], "KIND": ["", "-", "0;1", ",0"],
-    "ORDER": ["", "-", "0,,1"], "LOT": ["", "--", "0,-", "x"], "HISTORY": ["", "put", "put0", "put0>", "miss0>1", "pUt0>1"],
+    "STORE": ["", "3", "3:", "3:0,1", "3:0,1/", "3:0;/-", "03:0/-", "3:0/-x", "3:0,-/-"],
+    "BOARD": ["", "-", "-1", "0,", "00"],
+    "WEIGHTS": ["", "-", "-0", "1,", "--1", "1234567"], "COUNTS": ["", "-1", "-,0", "0-"],
+    "KIND": ["", "-", "0;1", ",0"],
+    "ORDER": ["", "-", "0,,1"], "LOT": ["", "--", "0,-", "x"],
+    "HISTORY": ["", "put", "put0", "put0>", "miss0>1", "pUt0>1"],
 }
 
 
@@ -111,8 +114,10 @@ class CommandTest(unittest.TestCase):
             self.check(text + "\n", False, False)
 
     def test_words(self):
-        for word in ("", " ", "Undo", "UNDO", "undo1", "und", "do", "claim", "claim k", "claim k undo", "claim k lay s 0",
-                     "claim k same s s", "claim k flat s 0", "claim k never s 0", "claim never s 0 1", "claim K never s 0 1",
+        for word in ("", " ", "Undo", "UNDO", "undo1", "und", "do", "claim", "claim k", "claim k undo",
+                     "claim k lay s 0",
+                     "claim k same s s", "claim k flat s 0", "claim k never s 0", "claim never s 0 1",
+                     "claim K never s 0 1",
                      "claim k total s b", "above s 0 1", "without s w", "barred s b w", "crowded s b c w", "parts s t",
                      "stuck s b", "state", "states k", "names n", "never n never s 0 1", "x", "-", "lines", "copy"):
             self.check(word, False, False)
@@ -141,7 +146,8 @@ class CommandTest(unittest.TestCase):
                 text = " ".join(filled(dice, form))
                 at = dice.randrange(len(text))
                 bent = text[:at] + dice.choice(["", dice.choice(" 01s-,;:/>\nA")]) + text[at + 1:]
-                self.check(bent, self.second_is_command(bent), bent.split(" ")[0] in [one.split(" ")[0] for one in DEEDS])
+                self.check(bent, self.second_is_command(bent),
+                           bent.split(" ")[0] in [one.split(" ")[0] for one in DEEDS])
 
     def second_is_command(self, text):
         return any(self.fits_form(form.split(" "), text.split(" ")) for form in DEEDS + OTHERS)

@@ -10,7 +10,8 @@ from twoabove.desk import Desk
 from twoabove.stores import Store
 
 TEXTS = {
-    "STORE": ["3:0,1;1,2/-", "3:0,1;1,2/1,2", "3:0;1;2/0,1,2", "3:0,1/0", "2:0,1/0", "2:-/-", "3:0,0/-", "1:-/-", "3:0/7"],
+    "STORE": ["3:0,1;1,2/-", "3:0,1;1,2/1,2", "3:0;1;2/0,1,2", "3:0,1/0", "2:0,1/0", "2:-/-", "3:0,0/-", "1:-/-",
+              "3:0/7"],
     "BOARD": ["0,0,0", "2,1,0", "1,1,0", "0,1,1", "1,1,1", "3,0,1", "2,2,1", "0,0", "60,60,59", "61,0", "5"],
     "WEIGHTS": ["1,-1,1", "1,-2,1", "0,0,-1", "-1,0,2", "1,-1", "7"],
     "COUNTS": ["1,1", "2,0", "0,1", "1,0", "3", "1,0,1", "-", "21"],
@@ -19,7 +20,8 @@ TEXTS = {
     "LOT": ["-", "0", "1,0", "2,1,0", "7"],
 }
 STARTS = [
-    "store s 3:0,1;1,2/1,2", "store t 3:0,1;1,2/-", "board b 0,0,0", "board v 1,1,0", "weights w 1,-2,1", "weights x 1,-1,1",
+    "store s 3:0,1;1,2/1,2", "store t 3:0,1;1,2/-", "board b 0,0,0", "board v 1,1,0", "weights w 1,-2,1",
+    "weights x 1,-1,1",
     "counts c 1,1", "counts d 2,0",
 ]
 LETTERS = {"s": "s s t t u", "b": "b v", "w": "w x", "c": "c d", "n": "s t u b v w x c d", "a": "s t u b v w x c d",
@@ -150,9 +152,11 @@ class AnswersTest(unittest.TestCase):
 
     def test_stores(self):
         self.check(
-            Desk(), ("store s 4:2,1;0,1;1,2/3", "-"), ("show s", "4: 0,1; 1,2 / 3"), ("lay s 3,0", "-"), ("lay s 1,0", "-"),
+            Desk(), ("store s 4:2,1;0,1;1,2/3", "-"), ("show s", "4: 0,1; 1,2 / 3"), ("lay s 3,0", "-"),
+            ("lay s 1,0", "-"),
             ("show s", "4: 0,1; 0,3; 1,2 / 3"), ("unlay s 0", "-"), ("show s", "4: 0,3; 1,2 / 3"), ("sell s 2,0", "-"),
-            ("unsell s 1", "-"), ("show s", "4: 0,3; 1,2 / 0,2"), ("turn s 3,2,1,0", "-"), ("show s", "4: 0,3; 1,2 / 1,3"),
+            ("unsell s 1", "-"), ("show s", "4: 0,3; 1,2 / 0,2"), ("turn s 3,2,1,0", "-"),
+            ("show s", "4: 0,3; 1,2 / 1,3"),
             ("lay s 3,2,1,0", "-"), ("lean l s", "-"), ("show l", "4: 0,3; 1,2 / 1,3"), ("beside d s s", "-"),
             ("show d", "8: 0,1,2,3; 0,3; 1,2; 4,5,6,7; 4,7; 5,6 / 1,3; 5,7"), ("names", "d l s"), ("same s s", "yes"),
             ("same s l", "no"), ("drop l", "-"), ("names", "d s"),
@@ -161,16 +165,21 @@ class AnswersTest(unittest.TestCase):
     def test_boards(self):
         self.check(
             Desk(), ("names", "-"), ("store s 3:0,1;1,2/1,2", "-"), ("board b 0,0,0", "-"), ("put b s 0 1", "-"),
-            ("put b s 0 0", "-"), ("put b s 0 1", "-"), ("show b", "1, 2, 0"), ("take b s 0 1", "-"), ("show b", "1, 1, 0"),
-            ("play b s put1>2,take0>1,take0>2,miss0", "-"), ("show b", "1, 0, 0"), ("miss b s 0", "-"), ("play b s -", "-"),
-            ("total s b", "1"), ("height s b", "1"), ("level s b 0", "0, 1, 2"), ("level s b 1", "0"), ("level s b 2", "-"),
-            ("level s b 99", "-"), ("fullest s b", "yes"), ("board c 1,0,0", "-"), ("same b c", "yes"), ("put c s 1 2", "-"),
+            ("put b s 0 0", "-"), ("put b s 0 1", "-"), ("show b", "1, 2, 0"), ("take b s 0 1", "-"),
+            ("show b", "1, 1, 0"),
+            ("play b s put1>2,take0>1,take0>2,miss0", "-"), ("show b", "1, 0, 0"), ("miss b s 0", "-"),
+            ("play b s -", "-"),
+            ("total s b", "1"), ("height s b", "1"), ("level s b 0", "0, 1, 2"), ("level s b 1", "0"),
+            ("level s b 2", "-"),
+            ("level s b 99", "-"), ("fullest s b", "yes"), ("board c 1,0,0", "-"), ("same b c", "yes"),
+            ("put c s 1 2", "-"),
             ("same b c", "no"), ("comes s b c", "yes"), ("comes s c b", "no"), ("show c", "1, 0, 1"),
         )
 
     def test_weights_counts_and_numbers(self):
         self.check(
-            Desk(), ("store s 3:0,1;1,2/-", "-"), ("weights w 1,-2,1", "-"), ("show w", "1, -2, 1"), ("below s w", "yes"),
+            Desk(), ("store s 3:0,1;1,2/-", "-"), ("weights w 1,-2,1", "-"), ("show w", "1, -2, 1"),
+            ("below s w", "yes"),
             ("bound s w", "6"), ("greatest s w", "2"), ("weights v 1,-1,1", "-"), ("greatest s v", "none"),
             ("below s v", "no"), ("counts c -", "-"), ("show c", "-"), ("counts d 3,0", "-"), ("show d", "3, 0"),
             ("fewest s 0 1", "0"), ("fewest s 1 0", "1"), ("never s 0 1", "yes"), ("never s 1 0", "no"),
@@ -181,13 +190,26 @@ class AnswersTest(unittest.TestCase):
             ("board f 3,0,0", "-"), ("ends s b d f", "no"),
         )
 
+    def test_least_and_most_of_lists(self):
+        desk = Desk()
+        for at, (word, text) in enumerate((
+            ("board", "0,60"), ("board", "60,0,0,0,0,0,0,60"), ("weights", "-999999,999999"),
+            ("weights", "0,0,0,0,0,0,0,-1"),
+            ("counts", "20"), ("counts", "20,0,0,0,0,0,0,20"), ("counts", "-"), ("store", "2:-/-"),
+            ("store", "8:0;1;2;3;4;5;6;7/0;1;2;3;4;5;6;7"),
+        )):
+            self.assertEqual(desk.do(f"{word} n{at} {text}"), "-")
+            self.assertEqual(desk.do(f"show n{at}").replace(" ", ""), text)
+
     def test_just_the_labels_whose_state_turned(self):
         self.check(
             Desk(), ("states", "-"), ("store s 3:0,1;1,2/-", "-"), ("claim z never s 0 1", "z true"),
             ("claim a above s 0 1", "a false"), ("claim m never s 0 2", "m false"), ("claim y never s 2 1", "y true"),
-            ("sell s 1", "a true, y false, z false"), ("sell s 0", "-"), ("states", "a true, m false, y false, z false"),
+            ("sell s 1", "a true, y false, z false"), ("sell s 0", "-"),
+            ("states", "a true, m false, y false, z false"),
             ("unsell s 1", "a false, y true, z true"), ("state m", "false"), ("state a", "false"),
-            ("claimed a", "above s 0 1"), ("lay s 0", "a true, z false"), ("forget z", "-"), ("states", "a true, m false, y true"),
+            ("claimed a", "above s 0 1"), ("lay s 0", "a true, z false"), ("forget z", "-"),
+            ("states", "a true, m false, y true"),
             ("drop s", "a gone, m gone, y gone"), ("state m", "gone"), ("board s 0,0,0", "-"), ("drop s", "-"),
             ("store s 2:0/-", "a true"), ("drop s", "a gone"), ("store s 3:-/-", "a false, m true, y true"),
             ("claimed m", "never s 0 2"), ("undo", "store s 3:-/-"), ("states", "a gone, m gone, y gone"),
@@ -216,9 +238,11 @@ class AnswersTest(unittest.TestCase):
     def test_gone_and_back(self):
         desk = shop()
         self.check(
-            desk, ("drop c", "l gone"), ("weights c 3,0,1", "-"), ("drop c", "-"), ("counts c 2,0", "-"), ("drop c", "-"),
+            desk, ("drop c", "l gone"), ("weights c 3,0,1", "-"), ("drop c", "-"), ("counts c 2,0", "-"),
+            ("drop c", "-"),
             ("counts c 2,1", "l true"), ("put b s 0 0", "l gone"), ("put b s 0 1", "-"), ("undo", "put b s 0 1"),
-            ("undo", "put b s 0 0"), ("state l", "true"), ("lay s 0", "k false, l gone"), ("unlay s 0", "k true, l true"),
+            ("undo", "put b s 0 0"), ("state l", "true"), ("lay s 0", "k false, l gone"),
+            ("unlay s 0", "k true, l true"),
         )
         self.assertEqual(desk.claim_of("l")[0], "ends")
         desk.do("drop b")
@@ -227,7 +251,8 @@ class AnswersTest(unittest.TestCase):
     def test_one_name_for_a_thing_and_a_label(self):
         self.check(
             Desk(), ("store k 2:0,1/-", "-"), ("claim k never k 0 1", "k true"), ("claimed k", "never k 0 1"),
-            ("show k", "2: 0,1 / -"), ("lay k 0", "k false"), ("forget k", "-"), ("names", "k"), ("store never 2:-/-", "-"),
+            ("show k", "2: 0,1 / -"), ("lay k 0", "k false"), ("forget k", "-"), ("names", "k"),
+            ("store never 2:-/-", "-"),
             ("claim never never never 0 1", "never true"), ("drop never", "never gone"), ("state never", "gone"),
         )
 
@@ -243,7 +268,8 @@ class ErrorsTest(unittest.TestCase):
 
     def test_no_commands(self):
         desk = shop()
-        for wrong in ANY_VALUES + NO_LISTS + NO_COUNTS + ("Undo", "undo ", "show", "put b s 0", "state", "do", ["undo"]):
+        for wrong in ANY_VALUES + NO_LISTS + NO_COUNTS + ("Undo", "undo ", "show", "put b s 0", "state", "do",
+                                                          ["undo"]):
             before = desk.lines()
             self.assertTrue(same(raised(self, errors.InvalidCommand, lambda: desk.do(wrong)).value, wrong))
             self.assertEqual(desk.lines(), before)
@@ -322,7 +348,8 @@ class ErrorsTest(unittest.TestCase):
         self.check(desk, errors.BarredAt, "play b s put0>0,put0>0", position=1)
         self.check(desk, errors.InvalidClaim, "claim z never s 0 0", value=("never", store, 0, 0))
         self.check(desk, errors.InvalidClaim, "claim z above s 0 3", value=("above", store, 0, 3))
-        self.check(desk, errors.InvalidClaim, "claim z ends s w c b", value=("ends", store, [2, 1, 0], [3, 0], [0, 0, 0]))
+        self.check(desk, errors.InvalidClaim, "claim z ends s w c b",
+                   value=("ends", store, [2, 1, 0], [3, 0], [0, 0, 0]))
         desk.do_all("board two 0,0", "board full 60,60,60", "store wide 7:-/-", "weights y 1,1")
         self.check(desk, errors.InvalidBoard, "put two s 9 9", value=[0, 0])
         self.check(desk, errors.InvalidBoard, "play two s put9>9", value=[0, 0])
@@ -387,7 +414,8 @@ class LimitsTest(unittest.TestCase):
             error = raised(self, errors.TooMany, lambda: desk.do(command))
             self.assertEqual(vars(error), {"what": "names", "limit": 12})
         for command, error in (
-            ("store z 1:-/-", errors.InvalidShelves), ("board z 1", errors.InvalidBoard), ("lean z b1", errors.UnknownName),
+            ("store z 1:-/-", errors.InvalidShelves), ("board z 1", errors.InvalidBoard),
+            ("lean z b1", errors.UnknownName),
             ("store s 2:-/-", errors.NameTaken), ("counts z 21", errors.InvalidCounts),
         ):
             raised(self, error, lambda: desk.do(command))
@@ -418,7 +446,8 @@ class LimitsTest(unittest.TestCase):
             self.assertEqual(vars(error), {"what": "deeds", "limit": 300})
         for command, what in (("store z 2:-/-", "names"), ("claim z fullest s b0", "labels")):
             self.assertEqual(raised(self, errors.TooMany, lambda: desk.do(command)).what, what)
-        for command, error in (("lay s 7", errors.InvalidKind), ("drop z", errors.UnknownName), ("redo", errors.NothingToRedo)):
+        for command, error in (("lay s 7", errors.InvalidKind), ("drop z", errors.UnknownName),
+                               ("redo", errors.NothingToRedo)):
             raised(self, error, lambda: desk.do(command))
         self.assertEqual(len(desk.lines()), 300)
         self.assertEqual(desk.do_all("undo", "undo", "redo", "redo"), ["lay s 0"] * 4)

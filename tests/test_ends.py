@@ -33,7 +33,8 @@ def second_row_ends(store, board, positions):
     for position in positions:
         kind = store.deliveries()[position]
         steps.append({
-            changed_at(one, shelf, 1) for one in steps[-1] for shelf in kind if one[shelf] == min(one[at] for at in kind)
+            changed_at(one, shelf, 1) for one in steps[-1] for shelf in kind
+            if one[shelf] == min(one[at] for at in kind)
         })
     return steps
 
@@ -156,7 +157,8 @@ class AllEndsTest(unittest.TestCase):
         self.assertEqual(all_ends(PAIR, [50, 48], [3]), [[50, 51], [51, 50]])
         self.assertEqual(all_ends(PAIR, [48, 60], [12]), [[60, 60]])
         for store, board, counts in (
-            (Store(3, [[0, 2], [1, 2]], []), [48, 0, 50], [10, 2]), (SHOP, [9, 10, 8], [3, 3]), (SHOP, [2, 0, 1], [6, 6]),
+            (Store(3, [[0, 2], [1, 2]], []), [48, 0, 50], [10, 2]), (SHOP, [9, 10, 8], [3, 3]),
+            (SHOP, [2, 0, 1], [6, 6]),
         ):
             self.assertEqual(all_ends(store, board, counts), second_ends(store, board, counts))
 

@@ -63,8 +63,8 @@ INTERFACE = {
 METHODS = {
     "Store": {"__init__", "shelves", "deliveries", "sales", "__eq__"},
     "Desk": set(
-        "__init__ names labels __len__ __getitem__ __contains__ claim_of do __call__ do_all attempt attach fits lines copy "
-        "again".split()
+        "__init__ names labels __len__ __getitem__ __contains__ claim_of do __call__ do_all attempt attach fits lines "
+        "copy again".split()
     ),
     "Trial": {"__init__", "__enter__", "__exit__"},
 }
@@ -82,12 +82,12 @@ DUNDERS = set(
     "__init__ __eq__ __repr__ __str__ __len__ __enter__ __exit__ __call__ __iter__ __contains__ __getitem__".split()
 )
 CALLED = set(
-    "append clear copy count endswith extend find get index insert isdigit items join keys partition pop remove replace "
-    "reverse setdefault split startswith strip update values".split()
+    "append clear copy count endswith extend find get index insert isdigit items join keys partition pop remove "
+    "replace reverse setdefault split startswith strip update values".split()
 )
 BUILTINS = set(
-    "len range enumerate zip min max sum abs sorted reversed int str bool bytes list tuple dict set isinstance ord repr "
-    "any all divmod pow iter next map property staticmethod classmethod Exception ValueError TypeError KeyError "
+    "len range enumerate zip min max sum abs sorted reversed int str bool bytes list tuple dict set isinstance ord "
+    "repr any all divmod pow iter next map property staticmethod classmethod Exception ValueError TypeError KeyError "
     "IndexError LookupError ZeroDivisionError ArithmeticError OverflowError RuntimeError NotImplementedError "
     "AttributeError StopIteration NotImplemented super".split()
 )

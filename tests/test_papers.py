@@ -231,7 +231,8 @@ class RowsTest(unittest.TestCase):
             (("forget k", "state k"), 1, errors.UnknownLabel), (("redo", "redo"), 1, errors.NothingToRedo),
             (("claim z never s 0 0",), 0, errors.InvalidClaim), (("play b s put0>0,put0>0",), 0, errors.BarredAt),
             (("names", "claim k lets s t"), 1, errors.LabelTaken), (("board b 0,0",), 0, errors.NameTaken),
-            (("drop x",) + ("undo",) * 11, 10, errors.NothingToUndo), (("beside z s t", "beside y z s"), 1, errors.TooMany),
+            (("drop x",) + ("undo",) * 11, 10, errors.NothingToUndo),
+            (("beside z s t", "beside y z s"), 1, errors.TooMany),
             (("lets s t", "greatest s x", "bound s x", "weights y 1,-1,1", "bound s y"), 4, errors.NotBelow),
         ):
             before = snapshot(desk)
@@ -316,7 +317,8 @@ class CopiesTest(unittest.TestCase):
         for wrong in NO_LISTS + ("undo", {0: "drop s"}):
             error = raised(self, errors.InvalidLines, lambda: Desk.again(wrong))
             self.assertEqual(vars(error), {"position": None})
-        for wrong in ANY_VALUES + ("undo", "redo", "names", "states", "show s", "store s 2:-/- ", "never s 0 1", "x", ""):
+        for wrong in ANY_VALUES + ("undo", "redo", "names", "states", "show s", "store s 2:-/- ", "never s 0 1", "x",
+                                   ""):
             for lines in ([wrong], ("drop s", wrong), ["store s 2:-/-", "drop s", wrong, "x"]):
                 error = raised(self, errors.InvalidLines, lambda: Desk.again(lines))
                 self.assertEqual(vars(error), {"position": [one is wrong for one in lines].index(True)})

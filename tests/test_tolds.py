@@ -52,7 +52,8 @@ def wished_boards(store, board, many):
 
 def small_cases():
     """Small stores with a board, counts, a wished board each, and whether it can be the end by a search."""
-    cases = [(store, [0, 0]) for store in all_small_stores()[::3]] + [(store, [2, 0]) for store in all_small_stores()[::5]]
+    cases = [(store, [0, 0]) for store in all_small_stores()[::3]]
+    cases += [(store, [2, 0]) for store in all_small_stores()[::5]]
     dice = random.Random(120)
     cases += [(store, [dice.randint(0, 2) for _ in range(3)]) for store in some_stores(3, 60, 121)]
     cases += [(store, [dice.randint(0, 1) for _ in range(4)]) for store in some_stores(4, 12, 122)]
@@ -253,7 +254,8 @@ class JudgesTest(unittest.TestCase):
             [[(0, 0), (1, 1, 1)], good[1]], [[(0, 0), (1,)], good[1]], [[(0, 0), ()], good[1]],
             [[(0, 0), (1, -1)], good[1]], [[(0, 0), (-1, 0)], good[1]], [[(0, 0), (3, 0)], good[1]],
             [[(0, 0), (1, "1")], good[1]], [[(0, 0), (1, [1])], good[1]], [[(0, 0), None], good[1]],
-            {0: good[0], 1: good[1]}, [{(0, 0): 1, (1, 1): 1}, good[1]], [good[0] + good[1], []], [[], good[0] + good[1]],
+            {0: good[0], 1: good[1]}, [{(0, 0): 1, (1, 1): 1}, good[1]], [good[0] + good[1], []],
+            [[], good[0] + good[1]],
             [[(0, 0), (1, {})], good[1]], [[(0, 0), ({}, 1)], good[1]], [[(0, 0), (1, {1})], good[1]],
         ]
         for wrong in wrongs:

@@ -29,7 +29,7 @@ def is_claim(value):
     row = _row_of(value[0])
     if row is None or not isinstance(value[1], Store):
         return False
-    first, parts = row[0], list(value[2:])
+    first, parts = row[0], value[2:]
     return len(parts) == PART_NUMBERS[first] and _are_parts(first, value[1], parts)
 
 

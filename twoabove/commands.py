@@ -122,12 +122,11 @@ def _claim_sorts(parts):
 
 
 def _told(sort, part):
-    if sort == "WORD":
-        return part
     if sort == "COUNT":
         return _count(part)
     if sort.startswith("TEXT "):
         return _text(sort[5:], part)
+    # The word of a claim has the signs of a name, too.
     if is_name(part):
         return part
     return None

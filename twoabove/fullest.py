@@ -34,7 +34,7 @@ def is_peeling(store, wished, value):
     """Whether any value is a peeling of the board."""
     filled = _filled(store, wished)
     kinds = store.deliveries()
-    if not is_list(value) or not all([_is_pair(filled, kinds, pair) for pair in value]):
+    if not is_list(value) or not all([_is_pair(kinds, pair) for pair in value]):
         return False
     row = [shelf for shelf, _ in value]
     if sorted(row) != filled:
@@ -101,8 +101,8 @@ def _common(shelves, kind):
     return [shelf for shelf in shelves if shelf in kind]
 
 
-def _is_pair(filled, kinds, value):
+def _is_pair(kinds, value):
     if not isinstance(value, tuple) or len(value) != 2:
         return False
     shelf, position = value
-    return is_count(shelf) and shelf in filled and is_count_below(position, len(kinds))
+    return is_count(shelf) and is_count_below(position, len(kinds))
