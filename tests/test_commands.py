@@ -3,22 +3,10 @@
 import random
 import unittest
 
+from tests.desk_model import DEED_FORMS, QUESTION_FORMS, form_of
 from tests.helpers import ANY_VALUES, NO_COUNTS, NO_LISTS
-from tests.text_model import readable
 from twoabove.commands import is_command, is_desk_deed, is_name
 
-# For each word the parts behind it: small letters stand for a name or a label, # for a count, others for a text.
-DEEDS = """
-store n STORE|board n BOARD|weights n WEIGHTS|counts n COUNTS|beside n n n|lean n n|lay n KIND|sell n KIND|unlay n #
-unsell n #|turn n ORDER|put n n # #|take n n # #|miss n n #|play n n HISTORY|drop n|claim n never n # #
-claim n above n # #|claim n below n n|claim n without n n|claim n comes n n n|claim n barred n n n
-claim n ends n n n n|claim n crowded n n n n|claim n lets n n|claim n parts n n|claim n fullest n n|claim n stuck n n
-forget n
-""".strip().replace("\n", "|").split("|")
-OTHERS = """
-undo|redo|state n|states|claimed n|names|show n|total n n|height n n|level n n #|flat n LOT|never n # #|below n n
-comes n n n|ends n n n n|fullest n n|lets n n|bound n n|greatest n n|fewest n # #|same n n
-""".strip().replace("\n", "|").split("|")
 NAMES = ["a", "s", "abcdefgh", "a1234567", "z9", "store", "undo", "x0"]
 NO_NAMES = ["", "A", "1", "1a", "abcdefghi", "a-b", "a_b", "aB", "a b", "a\n", "\na", "0", "-", "a,b", "~"]
 COUNTS = ["0", "1", "9", "10", "99", "20"]
@@ -39,20 +27,20 @@ NO_TEXTS = {
 
 
 def goods_of(part):
-    if part == "n":
+    if part.islower():
         return NAMES
     return COUNTS if part == "#" else TEXTS[part]
 
 
 def wrongs_of(part):
-    if part == "n":
+    if part.islower():
         return NO_NAMES
     return NO_COUNT_WORDS if part == "#" else NO_TEXTS[part]
 
 
 def places_of(form):
     """The places of a form behind its words, and what is wanted there."""
-    return [(at, part) for at, part in enumerate(form.split(" ")) if part == "n" or part == "#" or part.isupper()]
+    return [(at, part) for at, part in enumerate(form.split(" ")) if len(part) == 1 or part.isupper()]
 
 
 def filled(dice, form):
@@ -75,7 +63,7 @@ class CommandTest(unittest.TestCase):
 
     def test_each_word_with_right_parts(self):
         dice = random.Random(180)
-        for forms, deed in ((DEEDS, True), (OTHERS, False)):
+        for forms, deed in ((DEED_FORMS, True), (QUESTION_FORMS, False)):
             for form in forms:
                 for _ in range(12):
                     self.check(" ".join(filled(dice, form)), True, deed)
@@ -87,7 +75,7 @@ class CommandTest(unittest.TestCase):
 
     def test_each_part_wrong(self):
         dice = random.Random(181)
-        for form in DEEDS + OTHERS:
+        for form in DEED_FORMS + QUESTION_FORMS:
             for at, part in places_of(form):
                 for wrong in wrongs_of(part):
                     parts = filled(dice, form)
@@ -96,7 +84,7 @@ class CommandTest(unittest.TestCase):
 
     def test_parts_left_out_and_put_in(self):
         dice = random.Random(182)
-        for form in DEEDS + OTHERS:
+        for form in DEED_FORMS + QUESTION_FORMS:
             parts = filled(dice, form)
             for at in range(1, len(parts)):
                 self.check(" ".join(parts[:at] + parts[at + 1:]), False, False)
@@ -106,7 +94,7 @@ class CommandTest(unittest.TestCase):
 
     def test_blanks(self):
         dice = random.Random(183)
-        for form in DEEDS + OTHERS:
+        for form in DEED_FORMS + QUESTION_FORMS:
             text = " ".join(filled(dice, form))
             for at in [at for at, sign in enumerate(text) if sign == " "] + [0, len(text)]:
                 self.check(text[:at] + " " + text[at:], False, False)
@@ -141,28 +129,13 @@ class CommandTest(unittest.TestCase):
 
     def test_drawn_strings(self):
         dice = random.Random(184)
-        for form in DEEDS + OTHERS:
+        for form in DEED_FORMS + QUESTION_FORMS:
             for _ in range(60):
                 text = " ".join(filled(dice, form))
                 at = dice.randrange(len(text))
                 bent = text[:at] + dice.choice(["", dice.choice(" 01s-,;:/>\nA")]) + text[at + 1:]
-                self.check(bent, self.second_is_command(bent),
-                           bent.split(" ")[0] in [one.split(" ")[0] for one in DEEDS])
-
-    def second_is_command(self, text):
-        return any(self.fits_form(form.split(" "), text.split(" ")) for form in DEEDS + OTHERS)
-
-    def fits_form(self, form, parts):
-        return len(form) == len(parts) and all(self.fits_part(wanted, part) for wanted, part in zip(form, parts))
-
-    def fits_part(self, wanted, part):
-        if wanted == "n":
-            return 1 <= len(part) <= 8 and part[0].islower() and part.isalnum() and part == part.lower()
-        if wanted == "#":
-            return part.isdigit() and part == str(int(part)) and len(part) < 3
-        if wanted.isupper():
-            return len(part) <= 80 and readable(wanted.lower(), part)
-        return wanted == part
+                self.check(bent, form_of(bent) is not None,
+                           bent.split(" ")[0] in [one.split(" ")[0] for one in DEED_FORMS])
 
     def test_any_value(self):
         for value in ANY_VALUES + NO_LISTS + NO_COUNTS + (["undo"], ("undo",), b"undo", ["store", "s", "2:-/-"]):

@@ -1,18 +1,14 @@
 """What a desk answers to the commands that change nothing."""
 
-from twoabove.aboves import never_two_above
 from twoabove.boards import height, level_lot, total
 from twoabove.changes import fewest_changes
+from twoabove.claims import holds
 from twoabove.flats import is_flat
-from twoabove.fullest import comes_fullest
-from twoabove.leans import lets_all
-from twoabove.looks import comes
 from twoabove.scenes import told_states
 from twoabove.stores import Store
 from twoabove.sums import greatest
 from twoabove.texts import numbers_text, store_text
-from twoabove.tolds import can_end
-from twoabove.weights import bound, stays_below
+from twoabove.weights import bound
 
 
 def answer(scene, word, found):
@@ -63,20 +59,8 @@ def _number(word, found):
 
 
 def _is_so(word, found):
-    match word:
-        case "flat":
-            return is_flat(*found)
-        case "never":
-            return never_two_above(*found)
-        case "below":
-            return stays_below(*found)
-        case "comes":
-            return comes(*found)
-        case "ends":
-            return can_end(*found)
-        case "fullest":
-            return comes_fullest(*found)
-        case "lets":
-            return lets_all(*found)
-        case _:
-            return found[0] == found[1]
+    if word == "same":
+        return found[0] == found[1]
+    if word == "flat":
+        return is_flat(*found)
+    return holds(word, found)

@@ -38,7 +38,7 @@ def is_true(claim):
     _check_claim(claim)
     word, *parts = claim
     first = _row_of(word)[0]
-    return _holds(first, parts) == (word == first)
+    return holds(first, parts) == (word == first)
 
 
 def contrary(claim):
@@ -60,6 +60,23 @@ def is_paper_of(claim, value):
     _check_claim(claim)
     word, *parts = claim
     return _is_paper(word, parts, value)
+
+
+def holds(first, parts):
+    """Whether what the first word of a row tells of these parts is so; each wrong part raises its own error."""
+    match first:
+        case "never":
+            return never_two_above(*parts)
+        case "below":
+            return stays_below(*parts)
+        case "comes":
+            return comes(*parts)
+        case "ends":
+            return can_end(*parts)
+        case "lets":
+            return lets_all(*parts)
+        case _:
+            return comes_fullest(*parts)
 
 
 def copied(value):
@@ -101,23 +118,6 @@ def _are_parts(first, store, parts):
             return isinstance(parts[0], Store) and parts[0].shelves == store.shelves
         case _:
             return is_board_of(store.shelves, parts[0])
-
-
-def _holds(first, parts):
-    # Whether the claim with the first word of its row and these parts is true.
-    match first:
-        case "never":
-            return never_two_above(*parts)
-        case "below":
-            return stays_below(*parts)
-        case "comes":
-            return comes(*parts)
-        case "ends":
-            return can_end(*parts)
-        case "lets":
-            return lets_all(*parts)
-        case _:
-            return comes_fullest(*parts)
 
 
 def _paper(word, parts):
